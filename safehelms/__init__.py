@@ -1,0 +1,1 @@
+"""Safehelms: controllers that keep their plants safe, whatever comes."""
