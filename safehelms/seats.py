@@ -39,9 +39,7 @@ def scaled(row, scale):
 
 
 def void_weights(seat):
-    """The weights of a paper of the kind "void"; None if the lot is not void."""
-    if seat.short is None:
-        return None
+    """The weights of a paper of the kind "void", for the seat of a lot that is void."""
     grid = seat.grid
     weights = outer_weights(seat.scales, grid, grid.rows[seat.short], grid.share)
     label = grid.inner[seat.short]

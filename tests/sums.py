@@ -54,6 +54,7 @@ def weighed(one_lot, weights):
 
 
 def nested(deep):
+    """A tuple nested just so deep."""
     value = ()
     for _ in range(deep - 1):
         value = (value,)
@@ -64,15 +65,16 @@ class Bare:
     """A value of a kind that the package does not know."""
 
 
-# No fraction, no row, no lot and no index of anything stands here.
+# No fraction, no row, no lot and no index of anything stands here; the deepest leaves room for tuples around it.
 ODD = [None, True, False, -1, "", "bound", "lot", b"", b"ab", (), (1,), (1, 2, 3, 4, 5, 6, 7), [], [1, 2], {},
-       {"a": 1}, set(), {1, 2}, frozenset(), range(2), 2j, Bare(), Bare, len, lambda: 0, nested(40), Fraction(1, 2),
+       {"a": 1}, set(), {1, 2}, frozenset(), range(2), 2j, Bare(), Bare, len, lambda: 0, nested(30), Fraction(1, 2),
        ..., -10 ** 300]
 
 # Each of them is no fraction, though most are close to one.
 NO_FRACTIONS = ODD + [0, 1, (0, 0), (1, 0), (0, 2), (0, -1), (2, 4), (2, 2), (-2, 2), (1, -1), (-1, -2), (True, 1),
-                      (1, True), (False, 1), [0, 1], [1, 2], (1, 2, 3), (1,), ("1", 1), (1, "1"), ("1", "2"), (None, 1), (1, None),
-                      ((1, 1), 1), (1, (1, 1)), (6, 9), (10 ** 200, 10 ** 100), "1/2", (Fraction(1), 1)]
+                      (1, True), (False, 1), [0, 1], [1, 2], (1, 2, 3), (1,), ("1", 1), (1, "1"), ("1", "2"),
+                      (None, 1), (1, None), ((1, 1), 1), (1, (1, 1)), (6, 9), (10 ** 200, 10 ** 100), "1/2",
+                      (Fraction(1), 1)]
 
 
 class HelmCase(unittest.TestCase):

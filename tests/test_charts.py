@@ -8,7 +8,7 @@ from safehelms.errors import InvalidChart, InvalidNumber, InvalidRow, InvalidSta
 from sums import NO_FRACTIONS, ODD, HelmCase, lot, many_wishes, pair, row
 
 ONE, NIL = (1, 1), (0, 1)
-BIG = 10 ** 200
+BIG = 10 ** 120
 
 
 def stay(size, coming):
@@ -47,7 +47,8 @@ class IsChart(HelmCase):
         for size in range(0, 10):
             for coming in range(0, 8):
                 right = 1 <= size <= 8 and coming <= 6 and size + coming <= 12
-                self.assertIs(is_chart(plain(size, coming)), right, (size, coming))
+                for cases in (0, 1):
+                    self.assertIs(is_chart(plain(size, coming, cases=cases)), right, (size, coming))
         self.assertIs(is_chart(bent(plain(), 1, -1)), False)
         self.assertIs(is_chart(bent(plain(), 0, True)), False)
         self.assertIs(is_chart(bent(plain(), 1, False)), False)
@@ -157,6 +158,8 @@ class Step(HelmCase):
         for value in ODD + [2, 120, "0", (0,), [0]]:
             self.fails_given(InvalidNumber, value, step, TWO_PLACES, (0, row(0, 0)), value, None)
         self.fails_given(InvalidNumber, 0, step, plain(cases=0), (0, row(0)), 0, ())
+        self.fails_given(InvalidNumber, 1, step, plain(starts=3, places=3), (0, row(0)), 1, ())
+        self.assertIsNotNone(step(plain(cases=3), (0, row(0)), 2, ()))
         for value in ODD + [row(0), row(0, 0, 0), [NIL, NIL]]:
             self.fails_at(InvalidRow, None, step, TWO_PLACES, (1, row(0, 0)), 0, value)
         for value in NO_FRACTIONS:
@@ -226,6 +229,8 @@ class RunOf(HelmCase):
             self.fails_given(InvalidChart, value, run_of, value, None, None, None)
         for value in ODD + [2, 12, (0,)]:
             self.fails_given(InvalidNumber, value, run_of, TWO_PLACES, value, None, None)
+        self.fails_given(InvalidNumber, 1, run_of, plain(cases=3, places=3), 1, row(0), ())
+        self.assertIsNotNone(run_of(plain(starts=3), 2, row(0), ()))
         for value in ODD + [row(0), row(0, 0, 0), [NIL, NIL]]:
             self.fails_at(InvalidRow, None, run_of, TWO_PLACES, 0, value, None)
         for value in NO_FRACTIONS:

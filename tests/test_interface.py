@@ -4,10 +4,13 @@ import inspect
 import unittest
 from importlib import import_module
 
-from safehelms.charts import is_chart, run_of, step
-from safehelms.lots import (both_of, bounds, box_of, greatest, is_lot, is_paper, is_within, lies_in, paper_of,
+from safehelms.charts import is_chart, is_safe_standing, run_of, step
+from safehelms.errors import (InvalidChart, InvalidFraction, InvalidLot, InvalidNumber, InvalidPairs, InvalidRow,
+                              InvalidStanding, InvalidSteps, InvalidTable)
+from safehelms.lots import (both_of, bounds, box_of, greatest, is_lot, is_paper, is_row, is_within, lies_in, paper_of,
                             point_of)
-from safehelms.tables import open_wishes, takes, table_paper, wishes
+from safehelms.tables import is_table, open_wishes, table_paper, takes, wishes
+from sums import HelmCase, lot, nested, row
 
 INTERFACE = {
     "safehelms.lots": {
@@ -32,6 +35,45 @@ class Names(unittest.TestCase):
                 self.assertTrue(inspect.isfunction(function), name)
                 self.assertEqual(function.__module__, module, name)
                 self.assertEqual(list(inspect.signature(function).parameters), parameters, name)
+
+
+class DeepValues(HelmCase):
+    """A value nested 40 deep, passed for each argument for which any value may be passed."""
+
+    deep = nested(40)
+
+    def test_lots(self):
+        deep, line = self.deep, lot(2, (1, 1, 1))
+        self.assertEqual([is_lot(deep), is_row(1, deep), is_row(2, deep)], [False] * 3)
+        self.assertIs(is_paper(line, row(1, 1), (1, 1), deep), False)
+        self.fails_given(InvalidNumber, deep, is_row, deep, deep)
+        self.fails_at(InvalidPairs, 0, box_of, deep)
+        for call, many in ((point_of, 0), (lies_in, 1), (both_of, 1), (is_within, 1), (greatest, 1), (bounds, 2),
+                           (paper_of, 2), (is_paper, 3)):
+            self.fails_given(InvalidLot, deep, call, deep, *[deep] * many)
+        for call, many in ((lies_in, 0), (greatest, 0), (bounds, 1), (paper_of, 1), (is_paper, 2)):
+            self.fails_at(InvalidRow, None, call, line, deep, *[deep] * many)
+        for call, many in ((bounds, 0), (paper_of, 0), (is_paper, 1)):
+            self.fails_given(InvalidFraction, deep, call, line, row(1, 1), deep, *[deep] * many)
+        for call in (both_of, is_within):
+            self.fails_given(InvalidLot, deep, call, line, deep)
+
+    def test_charts_and_tables(self):
+        deep, empty = self.deep, (2, ())
+        chart = (2, 2, ((0, empty),), ((0, (4, ()), ((row(1, 0, 0, 0), (0, 1)),) * 2, 0),), (empty,))
+        self.assertEqual([is_chart(deep), is_table(chart, deep), takes(chart, deep)], [False] * 3)
+        for call, many in ((step, 3), (is_safe_standing, 1), (run_of, 3), (is_table, 1), (wishes, 1), (open_wishes, 1),
+                           (table_paper, 1), (takes, 1)):
+            self.fails_given(InvalidChart, deep, call, deep, *[deep] * many)
+        for call in (wishes, open_wishes, table_paper):
+            self.fails_given(InvalidTable, deep, call, chart, deep)
+        self.fails_given(InvalidStanding, deep, step, chart, deep, deep, deep)
+        self.fails_given(InvalidStanding, deep, is_safe_standing, chart, deep)
+        self.fails_given(InvalidNumber, deep, step, chart, (0, row(0, 0)), deep, deep)
+        self.fails_at(InvalidRow, None, step, chart, (0, row(0, 0)), 0, deep)
+        self.fails_given(InvalidNumber, deep, run_of, chart, deep, deep, deep)
+        self.fails_at(InvalidRow, None, run_of, chart, 0, deep, deep)
+        self.fails_at(InvalidSteps, 0, run_of, chart, 0, row(0, 0), deep)
 
 
 class LotsSession(unittest.TestCase):

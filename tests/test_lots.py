@@ -10,7 +10,7 @@ from sums import NO_FRACTIONS, ODD, HelmCase, are_lowest, dot, lies, lot, many_w
 
 ONE, NIL, TWO, LESS = (1, 1), (0, 1), (2, 1), (-1, 1)
 SQUARE = lot(2, (1, 0, 1), (-1, 0, 0), (0, 1, 1), (0, -1, 0))
-BIG = 10 ** 200
+BIG = 10 ** 120
 
 
 class IsLot(HelmCase):

@@ -11,7 +11,7 @@ from sums import NO_FRACTIONS, ODD, HelmCase, lot, many_wishes, num, pair, rando
 ONE, NIL, TWO, LESS, THREE = (1, 1), (0, 1), (2, 1), (-1, 1), (3, 1)
 SQUARE = lot(2, (1, 0, 1), (-1, 0, 0), (0, 1, 1), (0, -1, 0))
 VOID = lot(2, (1, 0, 0), (-1, 0, -1), (0, 1, 5))
-BIG = 10 ** 200
+BIG = 10 ** 120
 
 
 class Right(HelmCase):

@@ -11,7 +11,7 @@ from safehelms.tables import is_table, open_wishes, table_paper, takes, wishes
 from sums import NO_FRACTIONS, ODD, HelmCase, dot, lot, many_wishes, pair, row
 
 ONE, NIL, LESS = (1, 1), (0, 1), (-1, 1)
-BIG = 10 ** 200
+BIG = 10 ** 120
 THIRD = Fraction(1, 3)
 
 # At place 0 z halves and what comes, from 0 up to 1, is added; at 1 it goes back by 1 / 3 and a little.
