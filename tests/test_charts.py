@@ -49,10 +49,11 @@ class IsChart(HelmCase):
                 right = 1 <= size <= 8 and coming <= 6 and size + coming <= 12
                 for cases in (0, 1):
                     self.assertIs(is_chart(plain(size, coming, cases=cases)), right, (size, coming))
-        self.assertIs(is_chart(bent(plain(), 1, -1)), False)
-        self.assertIs(is_chart(bent(plain(), 0, True)), False)
-        self.assertIs(is_chart(bent(plain(), 1, False)), False)
-        self.assertIs(is_chart(bent(plain(), 1, True)), False)
+        for cases in (0, 1):
+            self.assertIs(is_chart(bent(plain(cases=cases), 0, True)), False)
+            for value in ODD:
+                self.assertIs(is_chart(bent(plain(cases=cases), 0, value)), False)
+                self.assertIs(is_chart(bent(plain(cases=cases), 1, value)), False)
 
     def test_how_many_places_starts_and_cases(self):
         for many, right in ((0, False), (1, True), (2, True), (11, True), (12, True), (13, False), (14, False)):
