@@ -57,8 +57,7 @@ def led_row(row, axle, column, share):
 
 def led_in(grid):
     """The grid with all numbers of z inner ones, but those that change no wish beside the others."""
-    size = len(grid.outer)
-    for column in range(size):
+    for column in [k for k, label in enumerate(grid.outer) if label >= grid.many]:
         ways = [k for k, row in enumerate(grid.rows) if grid.inner[k] < grid.many and row[column] != 0]
         if ways:
             grid = turned(grid, ways[0], column)
@@ -92,17 +91,42 @@ def least_rising(grid, at):
     return min(ways)[1] if ways else None
 
 
-def with_goal(grid, numbers):
-    """The grid with one more row: the goal, the sum of these whole numbers times those of z."""
-    goal = [0] * (len(grid.outer) + 1)
+def told_row(grid, numbers):
+    """The sum of these whole numbers times those of z, told by the outer unknowns."""
+    told = [0] * (len(grid.outer) + 1)
     for k, label in enumerate(grid.inner):
         if label >= grid.many and numbers[label - grid.many] != 0:
-            goal = [old + numbers[label - grid.many] * new for old, new in zip(goal, grid.rows[k])]
+            told = [old + numbers[label - grid.many] * new for old, new in zip(told, grid.rows[k])]
     for k, label in enumerate(grid.outer):
         if label >= grid.many:
-            goal[k] += numbers[label - grid.many] * grid.share
+            told[k] += numbers[label - grid.many] * grid.share
+    return told
+
+
+def left_row(grid, numbers, bound):
+    """What a wish (NUMBERS, BOUND) leaves, told by the outer unknowns."""
+    left = [-number for number in told_row(grid, numbers)]
+    left[-1] += bound * grid.share
+    return left
+
+
+def with_goal(grid, numbers):
+    """The grid with one more row: the goal, the sum of these whole numbers times those of z."""
     last = grid.many + len(numbers)
-    return Grid(grid.many, grid.share, grid.inner + [last], grid.outer, grid.rows + [goal])
+    return Grid(grid.many, grid.share, grid.inner + [last], grid.outer, grid.rows + [told_row(grid, numbers)])
+
+
+def widened(grid, coming, wishes):
+    """The grid with so many more numbers of z, behind those it has, and these wishes (NUMBERS, BOUND) more."""
+    more, size = len(wishes), len(grid.outer)
+    many = grid.many + more
+    inner = [label if label < grid.many else label + more for label in grid.inner]
+    outer = [label if label < grid.many else label + more for label in grid.outer]
+    outer.extend([many + size + k for k in range(coming)])
+    rows = [row[:-1] + [0] * coming + row[-1:] for row in grid.rows]
+    wide = Grid(many, grid.share, inner, outer, rows)
+    left = [left_row(wide, numbers, bound) for numbers, bound in wishes]
+    return Grid(many, grid.share, inner + list(range(grid.many, many)), outer, rows + left)
 
 
 def grown(grid):

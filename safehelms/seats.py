@@ -3,7 +3,7 @@
 from math import lcm
 
 from safehelms.exact import fraction, is_up_to
-from safehelms.grids import grid_of, grown, led_in, seated, with_goal
+from safehelms.grids import grid_of, grown, led_in, seated, widened, with_goal
 
 
 class Seat:
@@ -19,10 +19,23 @@ class Seat:
 def seat_of(lot):
     """The seat of a lot."""
     size, wishes = lot
-    scales = [scale_of(row + (bound,)) for row, bound in wishes]
-    whole = [(scaled(row, scale), scaled((bound,), scale)[0]) for (row, bound), scale in zip(wishes, scales)]
+    scales, whole = whole_wishes(wishes)
     grid, short = seated(led_in(grid_of(size, whole)))
     return Seat(size, scales, grid, short)
+
+
+def seat_beside(seat, coming, wishes):
+    """The seat of the lot with so many more numbers and these wishes more, by that of a lot that is not void."""
+    scales, whole = whole_wishes(wishes)
+    grid, short = seated(led_in(widened(seat.grid, coming, whole)))
+    return Seat(seat.size + coming, seat.scales + scales, grid, short)
+
+
+def whole_wishes(wishes):
+    """A pair of lists: the scales that make the wishes whole, and the wishes made whole."""
+    scales = [scale_of(row + (bound,)) for row, bound in wishes]
+    whole = [(scaled(row, scale), scaled((bound,), scale)[0]) for (row, bound), scale in zip(wishes, scales)]
+    return (scales, whole)
 
 
 def scale_of(row):
