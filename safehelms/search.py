@@ -2,10 +2,10 @@
 
 from safehelms.charts import check_chart
 from safehelms.errors import InvalidDirections, InvalidNumber
-from safehelms.exact import is_tuple_of, is_up_to, is_whole_from, opposite
+from safehelms.exact import is_tuple_of, is_up_to, is_whole_from, total
 from safehelms.rows import is_row_of
 from safehelms.seats import greatest_at, seat_of
-from safehelms.tables import all_wishes, bound_back, led_back, papers_for
+from safehelms.tables import all_wishes, brought_by_moves, led_back, papers_for
 
 
 class Stand:
@@ -40,7 +40,7 @@ def found_table(chart, directions, patience):
         brought = brought_to(chart, directions, stands, changed)
         changed = []
         for place, numbers in enumerate(brought):
-            changed.append(numbers is not None and is_changed(stands, place, numbers, patience))
+            changed.append(numbers is not None and take_in(stands, place, numbers, patience))
     return tuple([lot_of(chart[0], directions, stand) for stand in stands])
 
 
@@ -105,16 +105,12 @@ def brought_by(chart, case, directions, stands):
         if stands[goal] is not None and stands[goal].numbers[k] is None:
             numbers.append(None)
         else:
-            numbers.append(moved_number(greatest_number(seat, led_back(row, moves, width)), row, moves))
+            number = greatest_number(seat, led_back(row, moves, width))
+            numbers.append(None if number is None else total(number, brought_by_moves(row, moves)))
     return numbers
 
 
-def moved_number(number, row, moves):
-    """The number and what the moves' numbers bring to the row's product; None for None."""
-    return None if number is None else opposite(bound_back(row, opposite(number), moves))
-
-
-def is_changed(stands, place, numbers, patience):
+def take_in(stands, place, numbers, patience):
     """Take what was brought to the place; whether something changed there."""
     stand = stands[place]
     if stand is None:

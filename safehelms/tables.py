@@ -53,7 +53,12 @@ def led_back(row, moves, width):
 
 def bound_back(row, bound, moves):
     """The bound less what the moves' numbers bring to the row's product."""
-    return total(bound, opposite(product_of(row, [move[1] for move in moves])))
+    return total(bound, opposite(brought_by_moves(row, moves)))
+
+
+def brought_by_moves(row, moves):
+    """What the moves' numbers bring to the row's product."""
+    return product_of(row, [move[1] for move in moves])
 
 
 def papers_for(told):

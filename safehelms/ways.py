@@ -7,7 +7,7 @@ by step. What the start and the guards wish of them is a lot, the seat of which 
 from safehelms.exact import is_up_to, opposite, product_of, total
 from safehelms.rows import unit_row
 from safehelms.seats import greatest_at, seat_beside, seat_of
-from safehelms.tables import bound_back, led_back
+from safehelms.tables import bound_back, brought_by_moves, led_back
 
 
 class Way:
@@ -43,8 +43,7 @@ def further_way(chart, way, index):
     seat = seat_beside(way.seat, coming, wishes)
     if seat.short is not None:
         return None
-    state = [(led_back(row, told, size), total(number, product_of(row, [move[1] for move in told])))
-             for row, number in moves]
+    state = [(led_back(row, told, size), total(number, brought_by_moves(row, told))) for row, number in moves]
     return Way(way.start, way.cases + (index,), goal, seat, state)
 
 
