@@ -4,12 +4,23 @@ import inspect
 import unittest
 from importlib import import_module
 
+from helms import RISING, TANK
+from safehelms.branches import branch_at, branch_step, branches_of, worth_of
+from safehelms.breaks import breaking_row, is_breaking
 from safehelms.charts import is_chart, is_safe_standing, run_of, step
-from safehelms.errors import (InvalidChart, InvalidFraction, InvalidLot, InvalidNumber, InvalidPairs, InvalidRow,
-                              InvalidStanding, InvalidSteps, InvalidTable)
+from safehelms.compiled import cells_for, program_of, told_by
+from safehelms.controllers import first_state, is_controller, is_state, restarted, run_from, step_of
+from safehelms.errors import (InvalidCells, InvalidChart, InvalidController, InvalidDirections, InvalidForm,
+                              InvalidFraction, InvalidLot, InvalidMemory, InvalidNumber, InvalidNumbers, InvalidPairs,
+                              InvalidProgram, InvalidReadings, InvalidRow, InvalidRows, InvalidStanding, InvalidState,
+                              InvalidSteps, InvalidTable, InvalidText, InvalidWrites)
 from safehelms.lots import (both_of, bounds, box_of, greatest, is_lot, is_paper, is_row, is_within, lies_in, paper_of,
                             point_of)
+from safehelms.machine import is_program, run_program, wrapped
+from safehelms.search import settled, table_by
+from safehelms.stored import blank, is_memory, restored, writes_of, written
 from safehelms.tables import is_table, open_wishes, table_paper, takes, wishes
+from safehelms.texts import controller_of, is_name, text_of
 from sums import HelmCase, lot, nested, row
 
 INTERFACE = {
@@ -24,6 +35,25 @@ INTERFACE = {
     "safehelms.tables": {
         "is_table": ["chart", "value"], "wishes": ["chart", "table"], "open_wishes": ["chart", "table"],
         "table_paper": ["chart", "table"], "takes": ["chart", "paper"]},
+    "safehelms.search": {
+        "table_by": ["chart", "directions", "patience"], "settled": ["chart", "directions", "patience"]},
+    "safehelms.breaks": {"is_breaking": ["chart", "row"], "breaking_row": ["chart", "depth"]},
+    "safehelms.controllers": {
+        "is_controller": ["value"], "is_state": ["controller", "value"], "first_state": ["controller"],
+        "restarted": ["controller", "state"], "step_of": ["controller", "state", "readings"],
+        "run_from": ["controller", "state", "rows"]},
+    "safehelms.branches": {
+        "branches_of": ["controller", "phase"], "worth_of": ["form", "numbers"],
+        "branch_at": ["controller", "state", "readings"], "branch_step": ["controller", "state", "readings"]},
+    "safehelms.machine": {
+        "is_program": ["value"], "wrapped": ["width", "number"], "run_program": ["width", "program", "cells"]},
+    "safehelms.compiled": {
+        "program_of": ["controller"], "cells_for": ["controller", "state", "readings"],
+        "told_by": ["controller", "cells"]},
+    "safehelms.texts": {"is_name": ["value"], "text_of": ["controller"], "controller_of": ["text"]},
+    "safehelms.stored": {
+        "is_memory": ["controller", "value"], "blank": ["controller"], "writes_of": ["controller", "memory", "state"],
+        "written": ["controller", "memory", "writes"], "restored": ["controller", "memory"]},
 }
 
 
@@ -76,6 +106,52 @@ class DeepValues(HelmCase):
         self.fails_at(InvalidSteps, 0, run_of, chart, 0, row(0, 0), deep)
 
 
+    def test_search_and_breaks(self):
+        deep = self.deep
+        chart = (1, 0, ((0, (1, ())),), (), ((1, ()),))
+        for call, many in ((table_by, 2), (settled, 2), (is_breaking, 1), (breaking_row, 1)):
+            self.fails_given(InvalidChart, deep, call, deep, *[deep] * many)
+        self.assertIs(is_breaking(chart, deep), False)
+        for call in (table_by, settled):
+            self.fails_at(InvalidDirections, 0, call, chart, deep, deep)
+            self.fails_given(InvalidNumber, deep, call, chart, (row(1),), deep)
+        self.fails_given(InvalidNumber, deep, breaking_row, chart, deep)
+
+    def test_controllers_and_branches(self):
+        deep = self.deep
+        self.assertIs(is_controller(deep), False)
+        self.assertIs(is_state(TANK, deep), False)
+        for call, many in ((is_state, 1), (first_state, 0), (restarted, 1), (step_of, 2), (run_from, 2),
+                           (branches_of, 1), (branch_at, 2), (branch_step, 2), (program_of, 0), (cells_for, 2),
+                           (told_by, 1), (text_of, 0), (is_memory, 1), (blank, 0), (writes_of, 2), (written, 2),
+                           (restored, 1)):
+            self.fails_given(InvalidController, deep, call, deep, *[deep] * many)
+        for call, many in ((restarted, 0), (step_of, 1), (run_from, 1), (branch_at, 1), (branch_step, 1),
+                           (cells_for, 1)):
+            self.fails_given(InvalidState, deep, call, TANK, deep, *[deep] * many)
+        for call in (step_of, branch_at, branch_step, cells_for):
+            self.fails_at(InvalidReadings, 0, call, TANK, (0, (0,)), deep)
+        self.fails_at(InvalidRows, 0, run_from, TANK, (0, (0,)), deep)
+        self.fails_given(InvalidNumber, deep, branches_of, TANK, deep)
+        self.fails_given(InvalidForm, deep, worth_of, deep, deep)
+        self.fails_at(InvalidNumbers, 0, worth_of, ((1,), 1), deep)
+
+    def test_machines_texts_and_memories(self):
+        deep = self.deep
+        self.assertEqual([is_program(deep), is_name(deep), is_memory(TANK, deep)], [False] * 3)
+        self.fails_given(InvalidNumber, deep, wrapped, deep, deep)
+        self.fails_given(InvalidNumber, deep, wrapped, 8, deep)
+        self.fails_given(InvalidNumber, deep, run_program, deep, deep, deep)
+        self.fails_at(InvalidProgram, 0, run_program, 8, deep, deep)
+        self.fails_at(InvalidCells, 0, run_program, 8, (("stop",),), deep)
+        self.fails_at(InvalidCells, None, told_by, TANK, deep)
+        self.fails_at(InvalidText, None, controller_of, deep)
+        for call, many in ((writes_of, 1), (written, 1), (restored, 0)):
+            self.fails_given(InvalidMemory, deep, call, TANK, deep, *[deep] * many)
+        self.fails_given(InvalidState, deep, writes_of, TANK, blank(TANK), deep)
+        self.fails_at(InvalidWrites, 0, written, TANK, blank(TANK), deep)
+
+
 class LotsSession(unittest.TestCase):
     def test_session(self):
         nil, one, two, three, less, half = (0, 1), (1, 1), (2, 1), (3, 1), (-1, 1), (1, 2)
@@ -100,7 +176,7 @@ class LotsSession(unittest.TestCase):
 
 
 class BreaksSession(unittest.TestCase):
-    """The session of breaks, as far as it calls charts and tables."""
+    """The session of breaks, with what it calls of charts and tables."""
 
     def setUp(self):
         nil, one, three, less, half = (0, 1), (1, 1), (3, 1), (-1, 1), (1, 2)
@@ -125,6 +201,72 @@ class BreaksSession(unittest.TestCase):
         grown = ((1, ((((-1, 1),), (0, 1)),)),)
         self.assertEqual([open_wishes(halving, grown), open_wishes(adding, grown)], [(2,), (2,)])
         self.assertIsNone(table_paper(adding, grown))
+
+    def test_search_and_breaks(self):
+        halving, adding, one, less = self.halving, self.adding, self.one, self.less
+        self.assertEqual(
+            [table_by(adding, ((one,), (less,)), 1), settled(halving, ((one,), (less,)), 0), breaking_row(adding, 2),
+             is_breaking(adding, (0, (one,), ((0, ()), (0, ()), (0, ()))))],
+            [((1, ((((-1, 1),), (0, 1)),)),), ("open", 2), None, True])
+
+
+class ControllersSession(unittest.TestCase):
+    def test_controllers(self):
+        tank, rising = TANK, RISING
+        self.assertEqual(
+            [is_controller(tank), is_controller(tank[:4]), is_state(tank, (1, (9,))), is_state(tank, (2, (9,))),
+             first_state(tank), restarted(tank, (1, (7,)))], [True, False, True, False, (0, (0,)), (0, (7,))])
+        self.assertEqual(
+            [step_of(tank, (0, (0,)), (50,)), step_of(tank, (0, (9,)), (81,)), step_of(tank, (1, (9,)), (40,)),
+             step_of(tank, (0, (9,)), (80,)), step_of(tank, (0, (0,)), (101,))],
+            [("step", 5, (0, (1,))), ("step", 0, (1, (9,))), ("step", 0, (0, (9,))), ("step", 5, (0, (9,))),
+             ("leaves", ())])
+        self.assertEqual(run_from(tank, (0, (8,)), ((10,), (90,), (-1,), (5,))),
+                         (("step", 5, (0, (9,))), ("step", 0, (1, (9,))), ("leaves", ())))
+        self.assertEqual([step_of(rising, (0, ()), (63,)), step_of(rising, (0, ()), (64,)),
+                          is_controller(rising[:4] + ((("only", ()),),))],
+                         [("step", 5, (0, ())), ("leaves", (0, 2)), False])
+
+    def test_branches(self):
+        tank = TANK
+        self.assertEqual(
+            [len(branches_of(tank, 0)), worth_of(((2, -1), 5), (3, 4)), branch_at(tank, (0, (0,)), (81,)),
+             branch_at(tank, (0, (0,)), (80,)), branch_at(tank, (0, (9,)), (80,)), branch_step(RISING, (0, ()), (64,))],
+            [3, 7, 0, 1, 2, ("leaves", (0, 2))])
+        self.assertEqual(branches_of(tank, 0)[0],
+                         ((((0, 1), -81),), (((), ((0, 1), 0)), ((), ((0, -1), 100)), ((0, 2, 0), ((0, 0), 0)),
+                                             ((0, 2, 0), ((0, 0), 5))), (((1, 0), 0),), ((0, 0), 0), 1))
+        self.assertEqual([branches_of(tank, 0)[1][0], branches_of(tank, 0)[1][2], branches_of(tank, 0)[2][0],
+                          branches_of(tank, 0)[2][2]],
+                         [(((0, -1), 80), ((-1, 0), 8)), (((1, 0), 1),), (((0, -1), 80), ((1, 0), -9)), (((0, 0), 9),)])
+
+    def test_machine_and_compiled(self):
+        tank = TANK
+        adding = (("put", 1, 100), ("below", 0, 1, 3), ("add", 2, 0, 1), ("stop",))
+        self.assertEqual([is_program(adding), is_program(adding[:3]), wrapped(8, 200), wrapped(8, -129),
+                          run_program(8, adding, (100, 0, 7)), run_program(8, adding, (99, 0, 7))],
+                         [True, False, -56, 127, (100, 100, -56), (99, 100, 7)])
+        program, layout = program_of(tank)
+        self.assertEqual([is_program(program),
+                          told_by(tank, run_program(8, program, cells_for(tank, (0, (9,)), (81,)))),
+                          told_by(tank, run_program(8, program, cells_for(tank, (1, (9,)), (40,))))],
+                         [True, (0, (1, (9,))), (0, (0, (9,)))])
+        self.assertEqual(len(layout), 4)
+
+    def test_texts_and_stored(self):
+        tank = TANK
+        self.assertEqual([text_of(RISING), controller_of(text_of(tank)) == tank, is_name("level_2"), is_name("keep"),
+                          is_name("fill")],
+                         ["word 8 in level 0 100 out 0 5 phase only set more times 2 level out clamp more 0 5 end",
+                          True, False, False, True])
+        with self.assertRaises(InvalidText) as caught:
+            controller_of("word 8 in level 0 100 out 0 5 phase only out add 1 end")
+        self.assertEqual(caught.exception.index, 14)
+        fresh = blank(tank)
+        some = writes_of(tank, fresh, (1, (9,)))
+        self.assertEqual([fresh, some, restored(tank, fresh), restored(tank, written(tank, fresh, some[:2])),
+                          restored(tank, written(tank, fresh, some)), is_memory(tank, (0, 0, 0, 0, 0, 0))],
+                         [(0, 0, 0, 2, 0, 2), ((3, 1), (4, 9), (5, 1)), (0, (0,)), (0, (0,)), (0, (9,)), False])
 
 
 if __name__ == "__main__":
