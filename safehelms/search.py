@@ -93,10 +93,10 @@ def brought_to(chart, directions, stands, changed):
 
 def brought_by(chart, case, directions, stands):
     """The list of the directions' greatest numbers behind the case, as greatest_numbers tells them."""
-    start, guard, moves, goal = case
-    width, behind = guard[0], ((0, 1),) * chart[1]
-    ahead = lot_of(chart[0], directions, stands[start])
-    seat = seat_of((width, tuple([(row + behind, bound) for row, bound in ahead[1]]) + guard[1]))
+    start, (width, wishes), moves, goal = case
+    behind = ((0, 1),) * chart[1]
+    ahead = tuple([(row + behind, bound) for row, bound in wishes_at(directions, stands[start])])
+    seat = seat_of((width, ahead + wishes))
     if seat.short is not None:
         return None
     numbers = []
@@ -110,14 +110,14 @@ def brought_by(chart, case, directions, stands):
     return numbers
 
 
-def take_in(stands, place, numbers, patience):
-    """Take what was brought to the place; whether something changed there."""
+def take_in(stands, place, brought, patience):
+    """Take the numbers that were brought to the place; whether something changed there."""
     stand = stands[place]
     if stand is None:
-        stands[place] = Stand(numbers)
+        stands[place] = Stand(brought)
         return True
     changed = False
-    for k, number in enumerate(numbers):
+    for k, number in enumerate(brought):
         old = stand.numbers[k]
         if old is None or (number is not None and is_up_to(number, old)):
             continue
@@ -128,10 +128,15 @@ def take_in(stands, place, numbers, patience):
 
 
 def lot_of(size, directions, stand):
-    """The lot of the directions that have a number, as wishes; where nothing stands, a lot in which nothing lies."""
+    """The lot of what stands at a place; where nothing stands, a lot in which nothing lies."""
     if stand is None:
         return (size, ((((0, 1),) * size, (-1, 1)),))
-    return (size, tuple([(row, number) for row, number in zip(directions, stand.numbers) if number is not None]))
+    return (size, wishes_at(directions, stand))
+
+
+def wishes_at(directions, stand):
+    """The directions that have a number, as wishes, in order."""
+    return tuple([(row, number) for row, number in zip(directions, stand.numbers) if number is not None])
 
 
 def check_search(chart, directions, patience):

@@ -10,7 +10,8 @@ from safehelms.charts import is_chart, is_safe_standing, run_of
 from safehelms.errors import InvalidChart, InvalidNumber
 from safehelms.lots import box_of, greatest
 from safehelms.search import settled
-from sums import NO_FRACTIONS, ODD, HelmCase, are_lowest, lot, num, pair, row
+from safehelms.seats import greatest_at, seat_beside, seat_of
+from sums import NO_FRACTIONS, ODD, HelmCase, are_lowest, lot, num, pair, random_lot, row
 
 ONE, NIL, LESS = (1, 1), (0, 1), (-1, 1)
 UNIT = lot(1, (1, 1), (-1, 0))
@@ -132,6 +133,17 @@ class BreakingRow(HelmCase):
         self.assertIsNone(self.judge(limited, 0))
         self.assertEqual(len(self.judge(limited, 1)[2]), 1)
 
+    def test_numbers_without_wishes(self):
+        # y is bounded nowhere at first, then from below alone; it has to come below - 5.
+        guard = lot(3, (1, 0, 0, 1), (-1, 0, 0, 1), (0, 0, 1, 3))
+        one = (2, 1, ((0, lot(2, (1, 0, 1))),), ((0, guard, ((row(1, 0, 0), NIL), (row(0, 1, 0), NIL)), 1),
+                                                (1, guard, ((row(1, 0, 0), NIL), (row(0, 1, 1), NIL)), 2)),
+               ((2, ()), (2, ()), lot(2, (0, -1, 5))))
+        self.assertIsNone(self.judge(one, 1))
+        self.assertEqual(len(self.judge(one, 2)[2]), 2)
+        limited = lot(3, (0, -1, 0, 8), (0, 0, -1, -3), (0, 0, 1, 3))
+        self.assertIsNone(self.judge(one[:3] + ((one[3][0], (1, limited, *one[3][1][2:])),) + one[4:], 6))
+
     def test_two_places(self):
         # - 1, 2, up to 3 at place 1; from 0 up to 2 lead to up to 3 by themselves.
         for depth in range(7):
@@ -183,6 +195,32 @@ class BreakingRow(HelmCase):
             if not (type(value) is int and 0 <= value <= 6):
                 self.fails_given(InvalidNumber, value, breaking_row, ADDING, value)
                 self.fails_given(InvalidNumber, value, breaking_row, depth=value, chart=ADDING)
+
+
+class Beside(HelmCase):
+    def test_seats_that_grow(self):
+        # What is told of the seat of a lot that grew, its weights too, shows itself beside the whole lot.
+        source, kinds = random.Random(26), {}
+        for turn in range(300):
+            size, coming = 1 + turn % 3, turn % 4 % 3
+            one = random_lot(source, size, source.randint(0, 4), 4, 1 + turn % 3)
+            seat, whole = seat_of(one), one
+            for _ in range(3):
+                if seat.short is None:
+                    further = random_lot(source, whole[0] + coming, source.randint(0, 3), 4, 2)
+                    whole = (further[0], tuple((wish + row(*[0] * coming), bound) for wish, bound in whole[1]) + further[1])
+                    seat = seat_beside(seat, coming, further[1])
+                    wish = row(*[source.randint(-2, 2) for _ in range(whole[0])])
+                    told = greatest_at(seat, wish)
+                    kind = self.assert_greatest(whole, wish, told)
+                    kinds[kind] = kinds.get(kind, 0) + 1
+                    self.assertEqual((kind, told[1] if kind == "greatest" else None), self.as_lots_tell(whole, wish))
+        self.assertEqual(sorted(kinds), ["endless", "greatest", "void"])
+        self.assertGreater(min(kinds.values()), 50)
+
+    def as_lots_tell(self, one, wish):
+        told = greatest(one, wish)
+        return told[0], told[1] if told[0] == "greatest" else None
 
 
 class IsBreaking(HelmCase):

@@ -52,6 +52,19 @@ def tree(many):
     return ("add", tree(left), tree(many - 1 - left))
 
 
+class Alike:
+    """What says that it is like anything, and that it is any number."""
+
+    def __eq__(self, other):
+        return True
+
+    def __hash__(self):
+        return hash("level")
+
+    def __index__(self):
+        return 8
+
+
 class ControllerCase(HelmCase):
     def right(self, *controllers):
         for one in controllers:
@@ -186,6 +199,21 @@ class Parts(ControllerCase):
         return (type(value) is tuple and [type(part) for part in value] == [int, int]
                 and -128 <= value[0] <= value[1] <= 127)
 
+    def test_how_long_the_rows_are(self):
+        keep = ("k", 0, 9, 0, 1)
+        for many in range(7):
+            one = (("a", 0, 1, 1, 0, 0) + (0,))[:many]
+            self.assertIs(is_controller(with_block(OUT_0, inputs=(one,), keeps=())), many == 3)
+            self.assertIs(is_controller(with_block(OUT_0, keeps=((keep + (0, 0))[:many],))), many == 5)
+            self.assertIs(is_controller(with_block(OUT_0, out=(0, 1, 2, 3, 4, 5)[:many])), many == 2)
+            self.assertIs(is_controller(bent(TANK, 4, (("p", (OUT_0,), (), (), (), ())[:many],))), many == 2)
+
+    def test_what_says_that_it_is_like_anything(self):
+        for word in ("set", "out", "go", "if"):
+            self.wrong(with_block(OUT_0, (Alike(), "x", 1)), with_block(OUT_0, ("go", Alike())),
+                       with_block(OUT_0, ("set", Alike(), 1)), with_sum(Alike()), with_sum((Alike(), 1, 2)),
+                       with_block((word, Alike())), bent(TANK, 4, ((Alike(), (OUT_0,)),)), bent(TANK, 0, Alike()))
+
     def test_lists_are_no_tuples(self):
         self.wrong(bent(TANK, 1, list(TANK[1])), bent(TANK, 2, list(TANK[2])), bent(TANK, 3, list(TANK[3])),
                    bent(TANK, 4, list(TANK[4])), bent(TANK, 1, (list(TANK[1][0]),)), bent(TANK, 2, (list(TANK[2][0]),)),
@@ -202,7 +230,7 @@ class Blocks(ControllerCase):
             for at in range(len(right)):
                 self.wrong(with_block(OUT_0, right[:at] + right[at + 1:]),
                            with_block(OUT_0, right[:at] + (right[at],) + right[at:]))
-            for word in ("Set", "put", "", "goto", "add", "from", "end", "word", b"out", 0):
+            for word in ("Set", "put", "", "goto", "add", "from", "end", "word", b"out", 0, [], {}, ("out",), None):
                 self.wrong(with_block(OUT_0, bent(right, 0, word)))
         self.wrong(with_block(OUT_0, ("go", "none")), with_block(OUT_0, ("go", "level")), with_block(OUT_0, ("go", 0)))
 
@@ -212,20 +240,22 @@ class Blocks(ControllerCase):
             if isinstance(one, tuple):
                 for at in range(len(one)):
                     self.wrong(with_sum(one[:at] + one[at + 1:]), with_sum(one[:at] + (one[at],) + one[at:]))
-                for word in ("Add", "", "set", "from", "sum", "max"):
+                for word in ("Add", "", "set", "from", "sum", "max", [], {}, ("add",), None, 0):
                     self.wrong(with_sum(bent(one, 0, word)))
         for one in CONDITIONS:
             self.wrong(with_sum(one), with_sum(("add", one, 1)))
         self.wrong(with_sum(("times", "level", 2)), with_sum(("clamp", 0, "level", 9)), with_sum(("times", 1, "none")),
                    with_sum(("clamp", "level", 5, 4)), with_sum("none"), with_sum("out"), with_sum("only"),
                    with_sum("word"), with_sum(""))
+        # A word is no name, also where a command was told.
+        self.wrong(with_block(OUT_0, ("out", "out")), with_block(OUT_0, ("set", "x", "set")))
 
     def test_conditions(self):
         for one in CONDITIONS:
             self.right(with_condition(one), with_condition(("not", one)), with_condition(("and", CONDITIONS[0], one)))
             for at in range(len(one)):
                 self.wrong(with_condition(one[:at] + one[at + 1:]), with_condition(one[:at] + (one[at],) + one[at:]))
-            for word in ("From", "", "if", "add", "is", "below"):
+            for word in ("From", "", "if", "add", "is", "below", [], {}, ("from",), None, 0):
                 self.wrong(with_condition(bent(one, 0, word)))
         for one in SUMS:
             self.wrong(with_condition(one), with_condition(("not", one)), with_condition(("and", CONDITIONS[0], one)),
@@ -367,6 +397,11 @@ class Counts(ControllerCase):
         self.right(with_block(*block), with_block(*block, ("go", "rest")), with_block(*block, *[("go", "rest")] * 2))
         self.wrong(with_block(*block, *[("go", "rest")] * 3), with_block(*block, OUT_0, ("go", "rest")))
         self.right(with_block(*block, OUT_0))
+        # What is too much may stand within the last sum or condition alone.
+        self.wrong(with_block(*block, ("out", ("times", 1, "level"))), with_block(*block, ("out", ("add", 1, "level"))),
+                   with_block(*block, ("if", ("not", ("from", 1, 2)), (), ())),
+                   with_block(*block[:2], ("if", ("not", ("from", 1, 2)), (), ())))
+        self.right(with_block(*block[:2], ("if", ("from", 1, 2), (), ())))
 
     def test_what_counts(self):
         # Each kind is one and what stands within it; the numbers of clamp and the word of times are none.
