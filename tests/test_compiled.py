@@ -146,18 +146,18 @@ class ProgramOf(CompiledCase):
             one, other = ("add", one, 1), ("add", 1, other)
         names = ["x" + letter for letter in "abcdefghijkl"]
         sets = tuple(("set", name, at) for at, name in enumerate(names))
-        total = "xa"
-        for name in names[1:6]:
+        total = names[6]
+        for name in names[7:]:
             total = ("add", total, name)
-        block = (("if", ("same", one, other), sets, sets[::-1]),
-                 ("if", ("same", "xl", 11), (("set", "m", ("add", ("times", 10, "xk"), "xl")),),
-                  (("set", "m", -1),)), ("out", total))
+        block = (("if", ("from", "b", 0), sets, sets[::-1]),
+                 ("if", ("same", one, other), (("set", "m", ("add", ("times", 10, "xk"), "xl")),), (("set", "m", -1),)),
+                 ("out", total))
         keeps = (("k", -5, 5, 0, 1), ("l", -5, 5, 0, 1), ("m", -1, 120, 0, 1))
         both = (8, (("a", -99, 99), ("b", -99, 99)), keeps, (-100, 100), (("p", block),))
         program, layout = self.assert_program(both)
         for reading in (-99, 0, 94):
             self.assertEqual(self.assert_does(both, program, layout, (0, (1, 2, 3)), (reading, 7), lambda at: 50), "step")
-            self.assertEqual(step_of(both, (0, (1, 2, 3)), (reading, 7)), ("step", 15, (0, (1, 2, 111))))
+            self.assertEqual(step_of(both, (0, (1, 2, 3)), (reading, 7)), ("step", 51, (0, (1, 2, 111))))
 
     def test_wrong_inputs(self):
         for value in ODD + [TANK[:4], list(TANK)]:
