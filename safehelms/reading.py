@@ -1,9 +1,8 @@
 """What stands in the text of a controller, read sign by sign."""
 
 from safehelms.errors import InvalidText
+from safehelms.figures import is_number
 from safehelms.shapes import CONDITION_PARTS, STATEMENT_WORDS, SUM_PARTS, is_plain_name
-
-FIGURES = "0123456789"
 
 
 class Reader:
@@ -53,14 +52,6 @@ def read_number(reader):
     if not is_number(reader.ahead()):
         raise InvalidText(reader.at)
     return int(reader.taken())
-
-
-def is_number(sign):
-    """Whether the sign is a whole number in figures, without noughts ahead, - ahead of one below 0."""
-    figures = sign[1:] if sign.startswith("-") else sign
-    if figures == "" or not all(figure in FIGURES for figure in figures):
-        return False
-    return sign == "0" or figures[0] != "0"
 
 
 def read_name(reader):

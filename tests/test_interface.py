@@ -5,18 +5,25 @@ import unittest
 from importlib import import_module
 
 from helms import RISING, TANK
+from rigs import TANK_LOOP, TANK_PLANT
 from safehelms.branches import branch_at, branch_step, branches_of, worth_of
 from safehelms.breaks import breaking_row, is_breaking
+from safehelms.cases import cases_for, chart_of, numbers_of, numbers_that_come, places_of
 from safehelms.charts import is_chart, is_safe_standing, run_of, step
 from safehelms.compiled import cells_for, program_of, told_by
 from safehelms.controllers import first_state, is_controller, is_state, restarted, run_from, step_of
-from safehelms.errors import (InvalidCells, InvalidChart, InvalidController, InvalidDirections, InvalidForm,
-                              InvalidFraction, InvalidLot, InvalidMemory, InvalidNumber, InvalidNumbers, InvalidPairs,
-                              InvalidProgram, InvalidReadings, InvalidRow, InvalidRows, InvalidStanding, InvalidState,
-                              InvalidSteps, InvalidTable, InvalidText, InvalidWrites)
+from safehelms.errors import (InvalidCells, InvalidChart, InvalidComes, InvalidController, InvalidDirections,
+                              InvalidForm, InvalidFraction, InvalidLoop, InvalidLot, InvalidMemory, InvalidNumber,
+                              InvalidNumbers, InvalidPairs, InvalidPlant, InvalidProgram, InvalidReadings, InvalidRow,
+                              InvalidRows, InvalidStanding, InvalidState, InvalidSteps, InvalidTable, InvalidText,
+                              InvalidWrites)
+from safehelms.histories import history_of, history_text
+from safehelms.loops import begun, first_unsafe, fits, gone_on, is_loop, is_safe, is_standing, run
+from safehelms.loops import step as loop_step
 from safehelms.lots import (both_of, bounds, box_of, greatest, is_lot, is_paper, is_row, is_within, lies_in, paper_of,
                             point_of)
 from safehelms.machine import is_program, run_program, wrapped
+from safehelms.plants import is_plant, is_safe_row, moved, plant_of, plant_text, readings_of, within_drive
 from safehelms.search import settled, table_by
 from safehelms.stored import blank, is_memory, restored, writes_of, written
 from safehelms.tables import is_table, open_wishes, table_paper, takes, wishes
@@ -54,6 +61,19 @@ INTERFACE = {
     "safehelms.stored": {
         "is_memory": ["controller", "value"], "blank": ["controller"], "writes_of": ["controller", "memory", "state"],
         "written": ["controller", "memory", "writes"], "restored": ["controller", "memory"]},
+    "safehelms.plants": {
+        "is_plant": ["value"], "is_safe_row": ["plant", "row"], "moved": ["plant", "mode", "row", "drive", "noise"],
+        "readings_of": ["plant", "row"], "within_drive": ["plant", "command"], "plant_text": ["plant"],
+        "plant_of": ["text"]},
+    "safehelms.loops": {
+        "is_loop": ["value"], "is_standing": ["loop", "value"], "begun": ["loop", "state"],
+        "fits": ["loop", "standing", "value"], "step": ["loop", "standing", "comes"], "is_safe": ["loop", "standing"],
+        "run": ["loop", "state", "rows"], "gone_on": ["loop", "standing", "rows"],
+        "first_unsafe": ["loop", "state", "rows"]},
+    "safehelms.histories": {"history_text": ["loop", "state", "rows"], "history_of": ["loop", "text"]},
+    "safehelms.cases": {
+        "places_of": ["loop"], "numbers_of": ["loop", "standing"], "numbers_that_come": ["loop", "standing", "comes"],
+        "chart_of": ["loop"], "cases_for": ["loop", "standing", "comes"]},
 }
 
 
@@ -150,6 +170,38 @@ class DeepValues(HelmCase):
             self.fails_given(InvalidMemory, deep, call, TANK, deep, *[deep] * many)
         self.fails_given(InvalidState, deep, writes_of, TANK, blank(TANK), deep)
         self.fails_at(InvalidWrites, 0, written, TANK, blank(TANK), deep)
+
+    def test_plants(self):
+        deep = self.deep
+        self.assertIs(is_plant(deep), False)
+        for call, many in ((is_safe_row, 1), (moved, 4), (readings_of, 1), (within_drive, 1), (plant_text, 0)):
+            self.fails_given(InvalidPlant, deep, call, deep, *[deep] * many)
+        for call in (is_safe_row, readings_of):
+            self.fails_at(InvalidRow, 0, call, TANK_PLANT, deep)
+        for given, error in (((), InvalidNumber), ((0, row(1)), InvalidNumber)):
+            self.fails_given(error, deep, moved, TANK_PLANT, *given, *[deep] * (4 - len(given)))
+        for given in ((0,), (0, row(1), 2)):
+            self.fails_at(InvalidRow, 0, moved, TANK_PLANT, *given, *[deep] * (4 - len(given)))
+        self.fails_given(InvalidNumber, deep, within_drive, TANK_PLANT, deep)
+        self.fails_at(InvalidText, None, plant_of, deep)
+
+    def test_loops(self):
+        deep, standing = self.deep, begun(TANK_LOOP, row(5))
+        self.assertEqual([is_loop(deep), is_standing(TANK_LOOP, deep), fits(TANK_LOOP, standing, deep)], [False] * 3)
+        for call, many in ((is_standing, 1), (begun, 1), (fits, 2), (loop_step, 2), (is_safe, 1), (run, 2), (gone_on, 2),
+                           (first_unsafe, 2), (history_text, 2), (history_of, 1), (places_of, 0), (numbers_of, 1),
+                           (numbers_that_come, 2), (chart_of, 0), (cases_for, 2)):
+            self.fails_given(InvalidLoop, deep, call, deep, *[deep] * many)
+        for call, many in ((fits, 1), (loop_step, 1), (is_safe, 0), (gone_on, 1), (numbers_of, 0),
+                           (numbers_that_come, 1), (cases_for, 1)):
+            self.fails_given(InvalidStanding, deep, call, TANK_LOOP, deep, *[deep] * many)
+        for call in (loop_step, numbers_that_come, cases_for):
+            self.fails_given(InvalidComes, deep, call, TANK_LOOP, standing, deep)
+        for call in (begun, run, first_unsafe, history_text):
+            self.fails_at(InvalidRow, 0, call, TANK_LOOP, deep, *[deep] * (call is not begun))
+        for call, begin in ((run, row(5)), (first_unsafe, row(5)), (history_text, row(5)), (gone_on, standing)):
+            self.fails_at(InvalidRows, 0, call, TANK_LOOP, begin, deep)
+        self.fails_at(InvalidText, None, history_of, TANK_LOOP, deep)
 
 
 class LotsSession(unittest.TestCase):
@@ -267,6 +319,23 @@ class ControllersSession(unittest.TestCase):
         self.assertEqual([fresh, some, restored(tank, fresh), restored(tank, written(tank, fresh, some[:2])),
                           restored(tank, written(tank, fresh, some)), is_memory(tank, (0, 0, 0, 0, 0, 0))],
                          [(0, 0, 0, 2, 0, 2), ((3, 1), (4, 9), (5, 1)), (0, (0,)), (0, (0,)), (0, (9,)), False])
+
+
+class PlantsSession(unittest.TestCase):
+    def test_plants(self):
+        nil, one, half, less, quarter = (0, 1), (1, 1), (1, 2), (-1, 1), (1, 4)
+        modes, noise, start = ((((one,),), (half,), ((-1, 2),)),), (((-1, 4), quarter),), (((4, 1), (6, 1)),)
+        tank = (modes, noise, start, (((one,), (-1, 2), half, 5),), 0, (0, 2, 1, 0, 0),
+                (((one,), (10, 1)), ((less,), nil)))
+        self.assertEqual(
+            [is_plant(tank), is_safe_row(tank, (half,)), is_safe_row(tank, (less,)),
+             moved(tank, 0, (one,), 2, (nil,)), readings_of(tank, ((11, 2),)), readings_of(tank, (quarter,)),
+             within_drive(tank, 7)], [True, True, False, ((3, 2),), ((5, 6),), ((0, 0),), 2])
+        self.assertEqual(
+            plant_text(tank).split("\n"),
+            ["numbers 1", "mode : 1 1/2 -1/2", "noise -1/4 1/4", "start 4 6", "sensor 1 -1/2 1/2 5", "delay 0",
+             "drive 0 2 1 0 0", "safe 1 10", "safe -1 0", ""])
+        self.assertEqual(plant_of(plant_text(tank)), tank)
 
 
 if __name__ == "__main__":
