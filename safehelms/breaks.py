@@ -34,8 +34,7 @@ def stepped(chart, standing, pair):
 def breaking_row(chart, depth):
     """Any breaking row of up to so many steps; None."""
     check_chart(chart)
-    if not is_whole_from(depth, 0, 6):
-        raise InvalidNumber(depth)
+    check_depth(depth)
     ways = begun_ways(chart)
     # Short rows are sought ahead of longer ones, so that no long way hides what is near; ways are not kept, as they
     # may be many.
@@ -58,3 +57,9 @@ def broken_behind(chart, way, many):
             if row is not None:
                 return row
     return None
+
+
+def check_depth(depth):
+    """Raise InvalidNumber for no whole number from 0 to 6."""
+    if not is_whole_from(depth, 0, 6):
+        raise InvalidNumber(depth)

@@ -9,11 +9,15 @@ from rigs import TANK_LOOP, TANK_PLANT
 from safehelms.branches import branch_at, branch_step, branches_of, worth_of
 from safehelms.breaks import breaking_row, is_breaking
 from safehelms.cases import cases_for, chart_of, numbers_of, numbers_that_come, places_of
+from safehelms.certificates import (certify_bound, certify_chart, certify_does, certify_loop, certify_run,
+                                    certify_step, certify_void)
 from safehelms.charts import is_chart, is_safe_standing, run_of, step
+from safehelms.checker import accepts
 from safehelms.compiled import cells_for, program_of, told_by
+from safehelms.console import said
 from safehelms.controllers import first_state, is_controller, is_state, restarted, run_from, step_of
 from safehelms.errors import (InvalidCells, InvalidChart, InvalidComes, InvalidController, InvalidDirections,
-                              InvalidForm, InvalidFraction, InvalidLoop, InvalidLot, InvalidMemory, InvalidNumber,
+                              InvalidForm, InvalidFraction, InvalidLoop, InvalidLot, InvalidMemory, InvalidName, InvalidNumber,
                               InvalidNumbers, InvalidPairs, InvalidPlant, InvalidProgram, InvalidReadings, InvalidRow,
                               InvalidRows, InvalidStanding, InvalidState, InvalidSteps, InvalidTable, InvalidText,
                               InvalidWrites)
@@ -25,6 +29,7 @@ from safehelms.lots import (both_of, bounds, box_of, greatest, is_lot, is_paper,
 from safehelms.machine import is_program, run_program, wrapped
 from safehelms.plants import is_plant, is_safe_row, moved, plant_of, plant_text, readings_of, within_drive
 from safehelms.search import settled, table_by
+from safehelms.shown import refused, shown, shown_paper
 from safehelms.stored import blank, is_memory, restored, writes_of, written
 from safehelms.tables import is_table, open_wishes, table_paper, takes, wishes
 from safehelms.texts import controller_of, is_name, text_of
@@ -74,6 +79,14 @@ INTERFACE = {
     "safehelms.cases": {
         "places_of": ["loop"], "numbers_of": ["loop", "standing"], "numbers_that_come": ["loop", "standing", "comes"],
         "chart_of": ["loop"], "cases_for": ["loop", "standing", "comes"]},
+    "safehelms.shown": {"shown_names": [], "shown": ["name"], "refused": ["name"], "shown_paper": ["name"]},
+    "safehelms.console": {"said": ["commands"]},
+    "safehelms.checker": {"accepts": ["claim", "paper"]},
+    "safehelms.certificates": {
+        "certify_bound": ["lot", "row", "bound"], "certify_void": ["lot"],
+        "certify_chart": ["chart", "directions", "patience", "depth"],
+        "certify_step": ["controller", "state", "readings"], "certify_does": ["controller", "state", "readings"],
+        "certify_loop": ["loop", "directions", "patience"], "certify_run": ["loop", "state", "rows"]},
 }
 
 
@@ -202,6 +215,37 @@ class DeepValues(HelmCase):
         for call, begin in ((run, row(5)), (first_unsafe, row(5)), (history_text, row(5)), (gone_on, standing)):
             self.fails_at(InvalidRows, 0, call, TANK_LOOP, begin, deep)
         self.fails_at(InvalidText, None, history_of, TANK_LOOP, deep)
+
+    def test_shown_and_certificates(self):
+        deep, line = self.deep, lot(2, (1, 1, 1))
+        chart = (1, 0, ((0, (1, ())),), (), ((1, ()),))
+        for call in (shown, refused, shown_paper):
+            self.fails_given(InvalidName, deep, call, deep)
+        self.fails_at(InvalidRows, 0, said, deep)
+        self.assertIs(accepts(deep, deep), False)
+        for claim in (("in", line, row(1, 1), (1, 1)), ("void", line), ("some", line), ("safe", chart), ("broken", chart),
+                      ("step", TANK, (0, (0,)), (50,), 5, (0, (1,))), ("loop safe", TANK_LOOP),
+                      ("loop broken", TANK_LOOP)):
+            self.assertIs(accepts(claim, deep), False)
+            for at in range(1, len(claim)):
+                self.assertIs(accepts(claim[:at] + (deep,) + claim[at + 1:], ()), False)
+        self.fails_given(InvalidLot, deep, certify_bound, deep, deep, deep)
+        self.fails_at(InvalidRow, None, certify_bound, line, deep, deep)
+        self.fails_given(InvalidFraction, deep, certify_bound, line, row(1, 1), deep)
+        self.fails_given(InvalidLot, deep, certify_void, deep)
+        self.fails_given(InvalidChart, deep, certify_chart, deep, deep, deep, deep)
+        self.fails_at(InvalidDirections, 0, certify_chart, chart, deep, deep, deep)
+        self.fails_given(InvalidNumber, deep, certify_chart, chart, (row(1),), deep, deep)
+        self.fails_given(InvalidNumber, deep, certify_chart, chart, (row(1),), 0, deep)
+        for call in (certify_step, certify_does):
+            self.fails_given(InvalidController, deep, call, deep, deep, deep)
+            self.fails_given(InvalidState, deep, call, TANK, deep, deep)
+            self.fails_at(InvalidReadings, 0, call, TANK, (0, (0,)), deep)
+        self.fails_given(InvalidLoop, deep, certify_loop, deep, deep, deep)
+        self.fails_at(InvalidDirections, 0, certify_loop, TANK_LOOP, deep, deep)
+        self.fails_given(InvalidLoop, deep, certify_run, deep, deep, deep)
+        self.fails_at(InvalidRow, 0, certify_run, TANK_LOOP, deep, deep)
+        self.fails_at(InvalidRows, 0, certify_run, TANK_LOOP, row(5), deep)
 
 
 class LotsSession(unittest.TestCase):
@@ -336,6 +380,21 @@ class PlantsSession(unittest.TestCase):
             ["numbers 1", "mode : 1 1/2 -1/2", "noise -1/4 1/4", "start 4 6", "sensor 1 -1/2 1/2 5", "delay 0",
              "drive 0 2 1 0 0", "safe 1 10", "safe -1 0", ""])
         self.assertEqual(plant_of(plant_text(tank)), tank)
+
+
+class CertificatesSession(unittest.TestCase):
+    def test_certificates(self):
+        one, less, nil = (1, 1), (-1, 1), (0, 1)
+        line = (1, (((one,), one), ((less,), nil)))
+        self.assertEqual(
+            [certify_bound(line, (one,), one), certify_bound(line, (one,), nil)[0][0], certify_void(line)[0][0],
+             certify_void((1, (((one,), nil), ((less,), less))))[0][0]],
+            [(("in", (1, ((((1, 1),), (1, 1)), (((-1, 1),), (0, 1)))), ((1, 1),), (1, 1)), ("bound", ((1, 1), (0, 1)))),
+             "not in", "some", "void"])
+        adding = (1, 0, ((0, line),), ((0, (1, ()), (((one,), one),), 0),), ((1, (((one,), (3, 1)),)),))
+        self.assertEqual(
+            [certify_chart(adding, ((one,),), 0, 2), certify_chart(adding, ((one,),), 0, 3)[0][0],
+             accepts(("void", line), (nil, nil)), accepts(("some", line), (one,))], [None, "broken", False, True])
 
 
 if __name__ == "__main__":
