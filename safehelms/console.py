@@ -18,7 +18,12 @@ def said(commands):
     for index, command in enumerate(commands):
         if index == MOST_COMMANDS or not isinstance(command, str):
             raise InvalidRows(index)
-    return tuple([text_by(answer_to(command.split(" "))) for command in commands])
+    # Alike commands have one answer, so it is sought once.
+    answers = {}
+    for command in commands:
+        if command not in answers:
+            answers[command] = text_by(answer_to(command.split(" ")))
+    return tuple([answers[command] for command in commands])
 
 
 def answer_to(words):

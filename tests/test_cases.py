@@ -273,6 +273,15 @@ class TooManyOfThem(HelmCase):
         loop = driven(block=block, phases=4, drive=(1, 2, 1, 0, 0), modes=2)
         self.assertEqual(len(chart_of(loop)[3]), 120)
         self.assert_within(loop)
+        # Three branches of one phase, with 53 commands in all between them and 3 parts of the clamp each.
+        for last, many in ((4, 121), (3, 119)):
+            block = (("out", 1),) * 11 + (("if", ("above", "level", 3), (("out", 1),) * 12, (
+                ("if", ("above", "level", 2), (("out", 1),) * 4, (("out", 1),) * last),)),)
+            if many > 120:
+                self.assert_too_many(many, driven(block=block))
+            else:
+                self.assert_within(driven(block=block))
+        block = (("out", 1),) * 12
         loop = driven(block=block, phases=3, drive=(1, 2, 1, 0, 1), modes=2)
         self.assert_too_many(3 * 30 + 30 + 4 * 2, loop)
         for loop in made_loops(random.Random(2502), 25, lambda loop: too_many_by_hand(loop) is not None):

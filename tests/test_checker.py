@@ -3,7 +3,7 @@
 import random
 import unittest
 
-from helms import RISING, TANK, some_readings, some_state
+from helms import BROAD, RISING, TANK, some_readings, some_state
 from judging import SIZES, accepted_by_hand, bent_by_chance
 from rigs import (CART_LOOP, TANK_LOOP, TANK_PLANT, limit, made_loops, too_many_by_hand, with_part)
 from safehelms.breaks import breaking_row
@@ -11,7 +11,7 @@ from safehelms.branches import branch_at, branches_of
 from safehelms.cases import chart_of
 from safehelms.checker import accepts
 from safehelms.compiled import program_of
-from safehelms.controllers import step_of
+from safehelms.controllers import first_state, step_of
 from safehelms.loops import run
 from safehelms.lots import box_of
 from safehelms.search import settled
@@ -258,6 +258,33 @@ class Controllers(CheckerCase):
         self.assert_refuses(("does", with_part(TANK, 0, 32), wide, layout, (0, (9,)), (101,)), ())
         self.assert_accepts(("does", with_part(TANK, 0, 32), (("put", 0, 2 ** 31 - 1), ("stop",)), layout, (0, (9,)),
                              (101,)), ())
+
+    def test_does_at_the_ends(self):
+        # The last one of 128 cells, and a program of 2000 rows.
+        last, layout = (("put", 127, 1), ("stop",)), ((0,), (1,), 127, 126)
+        self.assert_accepts(("does", TANK, last, layout, (1, (9,)), (41,)), ())
+        self.assert_accepts(("does", TANK, last, ((0,), (1,), 2, 126), (1, (9,)), (41,)), ())
+        self.assert_accepts(("does", TANK, (("jump", 1998),) * 1998 + last, layout, (1, (9,)), (41,)), ())
+        self.assert_refuses(("does", TANK, (("jump", 1998),) * 1999 + last, layout, (1, (9,)), (41,)), ())
+
+    def test_other_counts(self):
+        """Controllers with other counts of inputs, keeps and phases than one another."""
+        source = random.Random(2716)
+        for controller in (BROAD, RISING, TANK):
+            program, layout = program_of(controller)
+            heard, kept, phase, command = layout
+            state, readings = first_state(controller), tuple(low for _, low, _ in controller[1])
+            self.assert_accepts(("does", controller, program, layout, state, readings), ())
+            for other in ((heard[1:], kept, phase, command), (heard + (99,), kept, phase, command),
+                          (heard, kept + (99,), phase, command), (heard, (99,) + kept[2:], phase, command),
+                          (kept, heard, phase, command), (heard, kept, phase, phase)):
+                counts = (len(other[0]), len(other[1])) == (len(heard), len(kept))
+                told = self.judged(("does", controller, program, other, state, readings), ())
+                self.assertFalse(told and not counts)
+            for at in range(-1, 5):
+                numbers = state[1] + some_readings(source, controller)
+                held = [self.judged(("branch", controller, at, numbers, index), ()) for index in range(25)]
+                self.assertEqual(held.count(True), 1 if 0 <= at < len(controller[4]) else 0)
 
     def test_all_states_and_readings(self):
         source = random.Random(2712)

@@ -96,6 +96,10 @@ class ManyCommands(HelmCase):
         self.assertEqual(said(commands=("x", "y")), (NONE, NONE))
         self.assertIs(type(said(())), tuple)
 
+    def test_alike_ones(self):
+        commands = ("judge tank", "x", "run tank 1", "judge tank", "run tank 2", "x", "run tank 1")
+        self.assertEqual(said(commands), tuple(said((command,))[0] for command in commands))
+
     def test_sixty(self):
         for many in (59, 60):
             self.assertEqual(said(("x",) * many), (NONE,) * many)

@@ -1,6 +1,7 @@
 """The plain limits of the language in which the package is written."""
 
 import ast
+import builtins
 import unittest
 from pathlib import Path
 
@@ -40,6 +41,31 @@ class Files(unittest.TestCase):
                 if isinstance(node, ast.ImportFrom):
                     self.assertEqual(node.level, 0, path)
                     self.assertTrue(node.module in LIBRARY or node.module.startswith("safehelms."), path)
+
+    def test_names(self):
+        """No name is a builtin's, and none that a file assigns is that of an import or a class of it."""
+        for path, _, tree in trees():
+            imported = {name.name for node in ast.walk(tree) if isinstance(node, ast.ImportFrom) for name in node.names}
+            classes = {node.name for node in ast.walk(tree) if isinstance(node, ast.ClassDef)}
+            read = {node.id for node in ast.walk(tree) if isinstance(node, ast.Name) and isinstance(node.ctx, ast.Load)}
+            self.assertEqual(imported - read, set(), path)
+            for node in ast.walk(tree):
+                bound = [node.arg] if isinstance(node, ast.arg) else [node.name] if isinstance(node, ast.FunctionDef) \
+                    else [node.id] if isinstance(node, ast.Name) and isinstance(node.ctx, ast.Store) else []
+                for name in bound:
+                    self.assertTrue(name == "__init__" or not hasattr(builtins, name), (path, name))
+                    self.assertNotIn(name, imported | classes, path)
+
+    def test_what_is_called_with_keywords_or_stars(self):
+        own = {node.name for _, _, tree in trees() for node in ast.walk(tree)
+               if isinstance(node, (ast.FunctionDef, ast.ClassDef))}
+        for path, _, tree in trees():
+            for node in ast.walk(tree):
+                if isinstance(node, ast.Call):
+                    self.assertFalse(any(isinstance(part, ast.Starred) for part in node.args), (path, node.lineno))
+                    name = node.func.id if isinstance(node.func, ast.Name) else None
+                    for keyword in node.keywords:
+                        self.assertTrue(name in own or (name, keyword.arg) == ("enumerate", "start"), (path, node.lineno))
 
     def test_no_floats_and_none_of_what_is_barred(self):
         for path, _, tree in trees():

@@ -188,7 +188,9 @@ class NoTexts(HelmCase):
                 (7, "sensor 1 0 0 2 1/2", 7), (9, "delay 3", 9), (9, "delay -1", 9), (10, "drive 1 0 0 0 0", 10),
                 (10, "drive 0 1 2 0 0", 10), (10, "drive 0 1 -1 0 0", 10), (10, "drive 0 0 0 4 0", 10),
                 (10, "drive 0 0 0 -1 0", 10), (10, "drive 0 0 0 0 2", 10), (10, "drive 0 0 0 0 1/2", 10),
-                (10, "drive 0 0 0 3 1", None), (11, "safe 1 0 0 0", 11), (11, "safe 1 0", 11)):
+                (10, "drive 0 0 0 3 1", None), (11, "safe 1 0 0 0", 11), (11, "safe 1 0", 11), (11, "safe", 11),
+                (1, "mode", 1), (1, "mode ", 1), (3, "noise", 3), (5, "start", 5), (7, "sensor", 7), (9, "delay", 9),
+                (10, "drive", 10), (0, "numbers", 0)):
             rows = CART_TEXT.split("\n")
             text = "\n".join(rows[:line] + [told] + rows[line + 1:])
             self.assertEqual(row_that_is_none(text), index)

@@ -57,6 +57,13 @@ class WhatIsAPlant(HelmCase):
             for many in range(5):
                 self.assert_plant(many == 2, with_part(CART_PLANT, at, CART_PLANT[at][:1] * many))
 
+    def test_parts_of_a_mode(self):
+        mode = CART_PLANT[MODES][1]
+        for other in (mode[:2], mode[1:], mode + mode[2:], mode + ((),), mode[::-1], (mode[0] + mode[1:2], *mode[1:]),
+                      (mode[0][:1], *mode[1:]), list(mode), ((*mode[0], row(0, 0)), *mode[1:]), (list(mode[0]), *mode[1:])):
+            self.assert_plant(False, with_part(CART_PLANT, (MODES, 1), other))
+            self.assert_plant(True, with_part(CART_PLANT, (MODES, 1), mode))
+
     def test_low_up_to_high(self):
         for at in (NOISE, START):
             for low, high in ((0, 0), (-1, 1), ("-1/2", "-1/2"), ("1/3", "1/2"), (-BIG, BIG), ("-1/2", "-1/3")):
